@@ -12,18 +12,6 @@ func Pack(headers []api.Pair) ([]byte, api.Errno) { return packing.Pack(headers)
 // Unpack tells the headers that are packed (P4).
 func Unpack(b []byte) ([]api.Pair, api.Errno) { return packing.Unpack(b) }
 
-// Conn is one end of a connection.
-type Conn struct{}
-
-// New gives an end (P5).
-func New(client bool, streams int) (*Conn, api.Errno) { return nil, api.OK }
-
-// Open opens a stream (P6).
-func (c *Conn) Open(headers []api.Pair) (int, api.Errno) { return 0, api.OK }
-
-// Headers tells the headers of a stream that the peer opened (P7).
-func (c *Conn) Headers(id int) ([]api.Pair, api.Errno) { return nil, api.OK }
-
 // Write takes data that is to be sent on a stream (P8).
 func (c *Conn) Write(id int, data []byte) (int, api.Errno) { return 0, api.OK }
 
@@ -41,12 +29,3 @@ func (c *Conn) Ping() (int, api.Errno) { return 0, api.OK }
 
 // Away takes no new streams any more (P11).
 func (c *Conn) Away() api.Errno { return api.OK }
-
-// Out tells bytes that go to the peer, at most so many (P12).
-func (c *Conn) Out(room int) []byte { return nil }
-
-// Events tells what has happened (P13).
-func (c *Conn) Events() []api.Event { return nil }
-
-// In takes bytes that came from the peer (P13).
-func (c *Conn) In(b []byte) {}

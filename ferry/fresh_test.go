@@ -55,3 +55,92 @@ func TestUnpackKeepsAndWritesNothing(t *testing.T) {
 		t.Errorf("P2: Unpack = %q and %q, want %q", second, third, want)
 	}
 }
+
+func TestOpenKeepsAndWritesNothing(t *testing.T) {
+	all := []api.Pair{{Name: "x", Value: "1"}, {Name: ":path", Value: "/"}, {Name: "behind", Value: "it"}}
+	handed := slices.Clone(all)
+	c := newEnd(t, true, 0)
+	wantOpen(t, c, handed[:2], 1, api.OK)
+	if !slices.Equal(handed, all) {
+		t.Errorf("P2: Open left %q", handed)
+	}
+	spoilPairs(handed)
+	wantOut(t, c, far, frame(api.Open, api.Whole, 1, []byte("\x00\x01x\x011\x83")...))
+}
+
+func TestInKeepsAndWritesNothing(t *testing.T) {
+	all := slices.Concat(frame(api.Settings, 0, 0, 2), frame(api.Open, 0, 1, []byte("\x00\x01x")...), frame(api.More, api.Whole, 1, []byte("\x03abc")...))
+	for cut := range len(all) {
+		s := newEnd(t, false, 1)
+		for _, piece := range [][]byte{all[:cut], all[cut:]} {
+			handed := append(slices.Clone(piece), "behind"...)
+			before := slices.Clone(handed)
+			s.In(handed[:len(piece)])
+			if !bytes.Equal(handed, before) {
+				t.Errorf("P2: In left %q of %q", handed, before)
+			}
+			spoil(handed)
+		}
+		wantEvents(t, s, opened(1))
+		wantHeaders(t, s, 1, one("x", "abc"))
+		wantOut(t, s, far, frame(api.Settings, api.Ack, 0))
+	}
+}
+
+func TestHeadersThatComeOutAreFresh(t *testing.T) {
+	s := newEnd(t, false, 1)
+	s.In(frame(api.Open, api.Whole, 1, 129, 131, 130))
+	want := append(get(), api.Pair{Name: ":path", Value: "/"}, api.Pair{Name: ":method", Value: "PUT"})
+	first, _ := s.Headers(1)
+	second, _ := s.Headers(1)
+	spoilPairs(first)
+	if !slices.Equal(second, want) {
+		t.Errorf("P2: Headers became %q", second)
+	}
+	wantHeaders(t, s, 1, want)
+}
+
+// Three events leave spare room behind them, in which a fourth could stand.
+func TestEventsThatComeOutAreFresh(t *testing.T) {
+	s := newEnd(t, false, 6)
+	s.In(openFrame(1))
+	s.In(frame(api.Open, api.Whole|api.End, 3, 129))
+	told := s.Events()
+	s.In(openFrame(5))
+	if !slices.Equal(told, []api.Event{opened(1), opened(3), ended(3)}) {
+		t.Errorf("P2: Events became %v", told)
+	}
+	clear(told[:cap(told)])
+	wantEvents(t, s, opened(5))
+}
+
+func TestBytesThatComeOutAreFresh(t *testing.T) {
+	c, _ := New(true, 3)
+	c.In(frame(api.Settings, 0, 0, 3))
+	wantOpen(t, c, long(65), 1, api.OK)
+	wantOpen(t, c, get(), 3, api.OK)
+	packed, _ := Pack(long(65))
+	headers := append(frame(api.Open, 0, 1, packed[:64]...), frame(api.More, api.Whole, 1, packed[64])...)
+	for _, want := range [][]byte{frame(api.Settings, 0, 0, 3), frame(api.Settings, api.Ack, 0), headers, openFrame(3)} {
+		b := c.Out(len(want))
+		if !bytes.Equal(b, want) {
+			t.Errorf("P2: Out = %v, want %v", b, want)
+		}
+		spoil(b)
+	}
+}
+
+// An end knows of another one only what was carried to it.
+func TestEndsDoNotChangeOneAnother(t *testing.T) {
+	first, second := newEnd(t, false, 1), newEnd(t, false, 1)
+	first.In(frame(api.Settings, 0, 0, 0))
+	first.In(openFrame(1))
+	wantOpen(t, second, get(), 2, api.OK)
+	wantNoStream(t, second, 1)
+	wantEvents(t, second)
+	first.In(openFrame(1))
+	second.In(openFrame(1))
+	wantEvents(t, second, opened(1))
+	wantOut(t, second, far, openFrame(2))
+	wantOut(t, first, far, frame(api.Settings, api.Ack, 0), awayFrame(1, api.Protocol))
+}

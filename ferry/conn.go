@@ -1,0 +1,60 @@
+package ferry
+
+import (
+	"ferry/api"
+	"ferry/wire"
+)
+
+// Conn is one end of a connection.
+type Conn struct {
+	mine, theirs opener
+	control      []wire.Frame // that wait, ahead of every stream
+	ring         []*stream    // of which something waits
+	events       []api.Event  // that nobody has asked for
+	in           []byte       // of a frame that has not come wholly
+	coming       *block       // headers that have not come wholly, or nil
+	failed       bool
+}
+
+// block is packed headers that the peer is sending.
+type block struct {
+	stream int
+	ends   bool // their Open had End
+	bytes  []byte
+}
+
+// New gives an end (P5).
+func New(client bool, streams int) (*Conn, api.Errno) {
+	if streams < 0 || streams > api.MaxStreams {
+		return nil, api.ErrConf
+	}
+	c := &Conn{
+		mine:   opener{first: 1, most: 1, streams: map[int]*stream{}},
+		theirs: opener{first: 2, most: streams, streams: map[int]*stream{}},
+	}
+	if !client {
+		c.mine.first, c.theirs.first = 2, 1
+	}
+	c.lay(api.Settings, 0, byte(streams))
+	return c, api.OK
+}
+
+// lay lets a control frame wait.
+func (c *Conn) lay(kind, flags int, body ...byte) {
+	c.control = append(c.control, wire.Frame{Kind: kind, Flags: flags, Body: body})
+}
+
+func (c *Conn) tell(kind, id, code int) {
+	c.events = append(c.events, api.Event{Kind: kind, Stream: id, Code: code})
+}
+
+// fail ends the connection. What the streams had to say is dropped; why it is over still goes out.
+func (c *Conn) fail(code int) {
+	c.failed = true
+	for _, s := range c.ring {
+		s.block = nil
+	}
+	c.ring, c.in, c.coming = nil, nil, nil
+	c.lay(api.Away, 0, byte(c.theirs.last>>8), byte(c.theirs.last), byte(code))
+	c.tell(api.Failed, 0, code)
+}
