@@ -1,6 +1,8 @@
 package ferry
 
 import (
+	"slices"
+
 	"ferry/api"
 	"ferry/wire"
 )
@@ -8,6 +10,7 @@ import (
 // Conn is one end of a connection.
 type Conn struct {
 	mine, theirs opener
+	window       windows      // of all streams together
 	control      []wire.Frame // that wait, ahead of every stream
 	ring         []*stream    // of which something waits
 	events       []api.Event  // that nobody has asked for
@@ -31,17 +34,36 @@ func New(client bool, streams int) (*Conn, api.Errno) {
 	c := &Conn{
 		mine:   opener{first: 1, most: 1, streams: map[int]*stream{}},
 		theirs: opener{first: 2, most: streams, streams: map[int]*stream{}},
+		window: windows{from: api.ConnWindow, to: api.ConnWindow},
 	}
 	if !client {
 		c.mine.first, c.theirs.first = 2, 1
 	}
-	c.lay(api.Settings, 0, byte(streams))
+	c.lay(api.Settings, 0, 0, byte(streams))
 	return c, api.OK
 }
 
+// find is the stream of a number, whoever opens it. 0 and what is below are as a number that nobody has come to.
+func (c *Conn) find(id int) *stream {
+	switch {
+	case c.mine.opens(id):
+		return c.mine.find(id)
+	case c.theirs.opens(id):
+		return c.theirs.find(id)
+	}
+	return &stream{state: idle}
+}
+
 // lay lets a control frame wait.
-func (c *Conn) lay(kind, flags int, body ...byte) {
-	c.control = append(c.control, wire.Frame{Kind: kind, Flags: flags, Body: body})
+func (c *Conn) lay(kind, flags, id int, body ...byte) {
+	c.control = append(c.control, wire.Frame{Kind: kind, Flags: flags, Stream: id, Body: body})
+}
+
+// enter brings a stream into the ring. One that is there already keeps its place.
+func (c *Conn) enter(s *stream) {
+	if !slices.Contains(c.ring, s) {
+		c.ring = append(c.ring, s)
+	}
 }
 
 func (c *Conn) tell(kind, id, code int) {
@@ -52,9 +74,9 @@ func (c *Conn) tell(kind, id, code int) {
 func (c *Conn) fail(code int) {
 	c.failed = true
 	for _, s := range c.ring {
-		s.block = nil
+		s.block, s.data = nil, nil
 	}
 	c.ring, c.in, c.coming = nil, nil, nil
-	c.lay(api.Away, 0, byte(c.theirs.last>>8), byte(c.theirs.last), byte(code))
+	c.lay(api.Away, 0, 0, byte(c.theirs.last>>8), byte(c.theirs.last), byte(code))
 	c.tell(api.Failed, 0, code)
 }

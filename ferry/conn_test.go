@@ -86,7 +86,7 @@ func wantFailure(t *testing.T, c *Conn, last, code int) {
 // wantOver: nothing happens any more.
 func wantOver(t *testing.T, c *Conn) {
 	t.Helper()
-	for _, b := range [][]byte{frame(api.Settings, 0, 0, 6), openFrame(501), openFrame(502), {0, 65, 0, 0, 0, 0}} {
+	for _, b := range [][]byte{frame(api.Settings, 0, 0, 6), openFrame(501), openFrame(502), dataFrame(1, api.End, []byte("x")), dataFrame(2, api.End, nil), windowFrames(1, 1000), {0, 65, 0, 0, 0, 0}} {
 		c.In(b)
 	}
 	wantOpen(t, c, get(), 0, api.ErrGone)

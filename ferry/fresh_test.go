@@ -68,18 +68,24 @@ func TestOpenKeepsAndWritesNothing(t *testing.T) {
 	wantOut(t, c, far, frame(api.Open, api.Whole, 1, []byte("\x00\x01x\x011\x83")...))
 }
 
+// inAndSpoil hands bytes in, and spoils them, and what stands behind them, afterwards.
+func inAndSpoil(t *testing.T, c *Conn, b []byte) {
+	t.Helper()
+	handed := append(slices.Clone(b), "behind"...)
+	before := slices.Clone(handed)
+	c.In(handed[:len(b)])
+	if !bytes.Equal(handed, before) {
+		t.Errorf("P2: In left %v of %v", handed, before)
+	}
+	spoil(handed)
+}
+
 func TestInKeepsAndWritesNothing(t *testing.T) {
 	all := slices.Concat(frame(api.Settings, 0, 0, 2), frame(api.Open, 0, 1, []byte("\x00\x01x")...), frame(api.More, api.Whole, 1, []byte("\x03abc")...))
 	for cut := range len(all) {
 		s := newEnd(t, false, 1)
 		for _, piece := range [][]byte{all[:cut], all[cut:]} {
-			handed := append(slices.Clone(piece), "behind"...)
-			before := slices.Clone(handed)
-			s.In(handed[:len(piece)])
-			if !bytes.Equal(handed, before) {
-				t.Errorf("P2: In left %q of %q", handed, before)
-			}
-			spoil(handed)
+			inAndSpoil(t, s, piece)
 		}
 		wantEvents(t, s, opened(1))
 		wantHeaders(t, s, 1, one("x", "abc"))
@@ -127,6 +133,81 @@ func TestBytesThatComeOutAreFresh(t *testing.T) {
 			t.Errorf("P2: Out = %v, want %v", b, want)
 		}
 		spoil(b)
+	}
+}
+
+func TestWriteKeepsAndWritesNothing(t *testing.T) {
+	for _, size := range []int{3, 90, api.MaxBuffer, api.MaxBuffer + 9} {
+		c := sender(t, 1)
+		c.In(windowFrames(1, 300))
+		all := append(bytesFrom(7, size), "behind"...)
+		handed := slices.Clone(all)
+		takes := min(size, api.MaxBuffer)
+		wantWrite(t, c, 1, handed[:2], 2, api.OK)
+		wantWrite(t, c, 1, handed[2:size], takes-2, api.OK)
+		if !bytes.Equal(handed, all) {
+			t.Errorf("P2: Write left %v", handed)
+		}
+		spoil(handed)
+		for piece := range slices.Chunk(all[:takes], api.MaxFrame) {
+			b := c.Out(api.Header + len(piece))
+			if !bytes.Equal(b, dataFrame(1, 0, piece)) {
+				t.Errorf("P2: Out = %v, want %v", b, piece)
+			}
+			spoil(b)
+		}
+		wantOut(t, c, far)
+	}
+}
+
+// Bytes that were written while others had gone out already must not stand where the caller can write.
+func TestDataThatComesOutIsFresh(t *testing.T) {
+	c := sender(t, 1)
+	for i := range 90 {
+		wantWrite(t, c, 1, bytesFrom(2*i, 2), 2, api.OK)
+		b := c.Out(7)
+		if !bytes.Equal(b, dataFrame(1, 0, bytesFrom(i, 1))) {
+			t.Errorf("P2: Out = %v", b)
+		}
+		spoil(b)
+	}
+}
+
+func TestInKeepsNoData(t *testing.T) {
+	all := slices.Concat(openFrame(1), dataFrame(1, 0, bytesFrom(0, 20)), dataFrame(1, 0, bytesFrom(20, 5)), windowFrames(1, 7), dataFrame(1, api.End, bytesFrom(25, 9)))
+	for cut := range len(all) {
+		s := newEnd(t, false, 1)
+		for _, piece := range [][]byte{all[:cut], all[cut:]} {
+			inAndSpoil(t, s, piece)
+		}
+		wantRead(t, s, 1, 22, bytesFrom(0, 22))
+		wantRead(t, s, 1, 99, bytesFrom(22, 12))
+	}
+}
+
+// What is read, with its spare room, is neither what is read later, nor what comes later.
+func TestBytesThatAreReadAreFresh(t *testing.T) {
+	s := newEnd(t, false, 1)
+	s.In(openFrame(1))
+	var got [][]byte
+	next := 0
+	for i := range 40 {
+		s.In(dataFrame(1, 0, bytesFrom(3*i, 3)))
+		b, _ := s.Read(1, 1+i%4)
+		if !bytes.Equal(b, bytesFrom(next, len(b))) {
+			t.Errorf("P2: Read = %v, want them from %d on", b, next)
+		}
+		next += len(b)
+		if i%2 == 0 {
+			spoil(b)
+		} else {
+			got = append(got, b, slices.Clone(b))
+		}
+	}
+	for i := 0; i < len(got); i += 2 {
+		if !bytes.Equal(got[i], got[i+1]) {
+			t.Errorf("P2: what was read became %v, was %v", got[i], got[i+1])
+		}
 	}
 }
 

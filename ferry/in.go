@@ -2,7 +2,6 @@ package ferry
 
 import (
 	"ferry/api"
-	"ferry/packing"
 	"ferry/wire"
 )
 
@@ -40,72 +39,43 @@ func (c *Conn) do(f wire.Frame) {
 		return
 	}
 	done := [api.Window + 1]func(*Conn, wire.Frame){
+		api.Data:     (*Conn).doData,
 		api.Open:     (*Conn).doOpen,
 		api.More:     (*Conn).doMore,
 		api.Settings: (*Conn).doSettings,
+		api.Window:   (*Conn).doWindow,
 	}
 	if f.Kind < len(done) && done[f.Kind] != nil {
 		done[f.Kind](c, f)
 	}
 }
 
-func (c *Conn) doOpen(f wire.Frame) {
-	if !c.theirs.opens(f.Stream) || c.theirs.stateOf(f.Stream) != idle {
+func (c *Conn) doData(f wire.Frame) {
+	s, size := c.find(f.Stream), len(f.Body)
+	switch {
+	case s.state == idle:
 		c.fail(api.Protocol)
-		return
+	case !c.window.take(size):
+		c.fail(api.Flow)
+	case s.state.wasReset():
+		if size > 0 {
+			c.give(&c.window, 0, size)
+		}
+	case s.state.hasPeersEnd():
+		c.fail(api.Closed)
+	case !s.window.take(size):
+		c.fail(api.Flow)
+	default:
+		s.unread = append(s.unread, f.Body...)
+		if f.Has(api.End) {
+			c.takeEnd(s)
+		}
 	}
-	c.theirs.last = f.Stream
-	c.coming = &block{stream: f.Stream, ends: f.Has(api.End)}
-	c.takeHeaders(f)
 }
 
-func (c *Conn) doMore(f wire.Frame) {
-	if c.coming == nil {
-		c.fail(api.Protocol)
-		return
-	}
-	c.takeHeaders(f)
-}
-
-// takeHeaders joins what a frame brings of headers to what has come of them.
-func (c *Conn) takeHeaders(f wire.Frame) {
-	come := c.coming
-	come.bytes = append(come.bytes, f.Body...)
-	if len(come.bytes) > api.MaxBlock {
-		c.fail(api.Size)
-		return
-	}
-	if !f.Has(api.Whole) {
-		return
-	}
-	headers, errno := packing.Unpack(come.bytes)
-	if errno != api.OK {
-		c.fail(api.Packing)
-		return
-	}
-	c.coming = nil
-	if c.theirs.full() {
-		c.refuse(come.stream)
-		return
-	}
-	c.accept(come, headers)
-}
-
-// refuse resets a stream that is one more than there may be.
-func (c *Conn) refuse(id int) {
-	s := c.theirs.begin(id, breaking)
-	s.code = api.Refused
-	c.ring = append(c.ring, s)
-}
-
-func (c *Conn) accept(come *block, headers []api.Pair) {
-	s := c.theirs.begin(come.stream, open)
-	s.headers = headers
-	c.tell(api.Opened, s.id, 0)
-	if come.ends {
-		s.move(endedThere)
-		c.tell(api.Ended, s.id, 0)
-	}
+func (c *Conn) takeEnd(s *stream) {
+	s.endThere()
+	c.tell(api.Ended, s.id, 0)
 }
 
 func (c *Conn) doSettings(f wire.Frame) {
@@ -122,6 +92,22 @@ func (c *Conn) doSettings(f wire.Frame) {
 		c.fail(api.Protocol)
 	default:
 		c.mine.most = int(f.Body[0])
-		c.lay(api.Settings, api.Ack)
+		c.lay(api.Settings, api.Ack, 0)
+	}
+}
+
+func (c *Conn) doWindow(f wire.Frame) {
+	s := c.find(f.Stream)
+	switch {
+	case f.Stream != 0 && s.state == idle:
+		c.fail(api.Protocol)
+	case len(f.Body) != 2:
+		c.fail(api.Size)
+	case wire.Two(f.Body) == 0:
+		c.fail(api.Protocol)
+	case f.Stream == 0:
+		c.widen(&c.window, wire.Two(f.Body))
+	case s.state.sends():
+		c.widen(&s.window, wire.Two(f.Body))
 	}
 }

@@ -20,16 +20,16 @@ func (c *Conn) Open(headers []api.Pair) (int, api.Errno) {
 		return 0, api.ErrMany
 	}
 	c.mine.last = id
-	s := c.mine.begin(id, open)
+	s := c.mine.keep(id)
 	s.block = packed
-	c.ring = append(c.ring, s)
+	c.enter(s)
 	return id, api.OK
 }
 
 // Headers tells the headers of a stream that the peer opened (P7).
 func (c *Conn) Headers(id int) ([]api.Pair, api.Errno) {
 	s := c.theirs.streams[id]
-	if s == nil || len(s.headers) == 0 {
+	if s == nil {
 		return nil, api.ErrStream
 	}
 	return slices.Clone(s.headers), api.OK

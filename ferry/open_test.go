@@ -97,7 +97,9 @@ func TestOpenUpToMaxId(t *testing.T) {
 		c.In(frame(api.Settings, 0, 0, api.MaxStreams))
 		for id := c.mine.first; id <= end.last; id += 2 {
 			wantOpen(t, c, get(), id, api.OK)
-			c.mine.streams[id].move(broken)
+			wantEnd(t, c, id, api.OK)
+			c.Out(far)
+			c.In(dataFrame(id, api.End, nil))
 		}
 		for range 3 {
 			wantOpen(t, c, get(), 0, api.ErrMany)

@@ -1,5 +1,7 @@
 package ferry
 
+import "ferry/api"
+
 // opener is what an end knows of the streams that one of both ends opens.
 type opener struct {
 	first    int // the first number of its streams
@@ -19,24 +21,29 @@ func (o *opener) next() int {
 	return o.last + 2
 }
 
-// stateOf is the state of a stream of this opener's. One that it has come to, but that nothing is known of, was left out, or its headers still come: both are as if they were reset.
-func (o *opener) stateOf(id int) state {
+// find is the stream of a number of this opener's. One that it has come to, but that is not kept, was left out or refused, or its headers still come: all these are as if they were reset.
+func (o *opener) find(id int) *stream {
 	if id > o.last {
-		return idle
+		return &stream{state: idle}
 	}
 	if s := o.streams[id]; s != nil {
-		return s.state
+		return s
 	}
-	return broken
+	return &stream{state: broken}
 }
 
 // full tells whether as many streams count as may. (There are more, if the peer has taken its word back, or was not told yet of those that are refused.)
 func (o *opener) full() bool { return o.counting >= o.most }
 
-// begin makes the stream of a number known.
-func (o *opener) begin(id int, in state) *stream {
-	s := &stream{id: id, opener: o}
-	s.move(in)
+// keep begins an open stream, and keeps it.
+func (o *opener) keep(id int) *stream {
+	s := o.begin(id, open)
 	o.streams[id] = s
+	return s
+}
+
+func (o *opener) begin(id int, in state) *stream {
+	s := &stream{id: id, opener: o, window: windows{from: api.StreamWindow, to: api.StreamWindow}}
+	s.move(in)
 	return s
 }

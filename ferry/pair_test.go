@@ -61,8 +61,8 @@ func noise(seed uint32, length int) []byte {
 func noisyFrames(seed uint32) []byte {
 	var all []byte
 	for n := noise(seed, 400); len(n) > 8; n = n[4:] {
-		kind := []int{api.Open, api.Open, api.More, api.Settings, int(n[0])}[n[1]%5]
-		body := [][]byte{{129}, {131, 129}, nil, {n[0] % 8}, n[:n[0]%8]}[n[2]%5]
+		kind := []int{api.Open, api.Open, api.More, api.Settings, api.Data, api.Data, api.Window, int(n[0])}[n[1]%8]
+		body := [][]byte{{129}, {131, 129}, nil, {n[0] % 8}, n[:n[0]%8], {0, 1 + n[0]}}[n[2]%6]
 		all = append(all, frame(kind, int(n[3]), int(n[0]/8), body...)...)
 	}
 	return all
@@ -80,6 +80,11 @@ func TestInOfNoise(t *testing.T) {
 			c.In(piece)
 			c.Open(get())
 			c.Headers(int(seed % 10))
+			for id := range 10 {
+				c.Write(id, piece)
+				c.Read(id, len(piece)-5)
+			}
+			c.End(int(seed % 8))
 			c.Out(int(seed % 30))
 		}
 		for i, e := range c.events {

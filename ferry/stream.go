@@ -11,7 +11,9 @@ type state int
 const (
 	idle       state = iota // its opener has not come to it yet
 	open                    // neither end has ended it
+	endedHere               // this end has ended it: the frame that says so has left
 	endedThere              // the peer has ended it
+	over                    // both have ended it
 	breaking                // it was reset here; the frame that says so waits
 	broken                  // it was reset, and nothing of it waits
 )
@@ -22,10 +24,46 @@ func (s state) counts() bool {
 	case breaking:
 		// The peer has not been told yet, and counts it as an open one.
 		fallthrough
-	case endedThere:
-		// This end has not ended it, so it is not over.
+	case endedHere, endedThere:
+		// One direction is left, so it is not over.
 		fallthrough
 	case open:
+		return true
+	}
+	return false
+}
+
+// sends tells whether this end has not ended a stream.
+func (s state) sends() bool {
+	switch s {
+	case endedThere:
+		// The peer's end is that of the other direction.
+		fallthrough
+	case open:
+		return true
+	}
+	return false
+}
+
+// hasPeersEnd tells whether the peer has ended a stream.
+func (s state) hasPeersEnd() bool {
+	switch s {
+	case over:
+		// That this end has, too, takes nothing from it.
+		fallthrough
+	case endedThere:
+		return true
+	}
+	return false
+}
+
+// wasReset tells whether either end has reset a stream.
+func (s state) wasReset() bool {
+	switch s {
+	case breaking:
+		// Whether the peer has been told is no matter here.
+		fallthrough
+	case broken:
 		return true
 	}
 	return false
@@ -35,9 +73,13 @@ type stream struct {
 	id      int
 	opener  *opener
 	state   state
+	window  windows
 	headers []api.Pair // if the peer opened it
 	block   []byte     // its packed headers, while they wait
-	code    int        // why it was reset, while that waits
+	data    []byte     // that waits
+	ends    bool       // End was called for it
+	unread  []byte
+	code    int // why it was reset, while that waits
 }
 
 // move brings the stream into another state.
@@ -51,24 +93,47 @@ func (s *stream) move(to state) {
 	s.state = to
 }
 
-// turn gives the frames that go out now, all of them; none, if there is no room.
-func (s *stream) turn(room int) []byte {
-	frames := s.waiting()
+// endHere: this end's last frame has left.
+func (s *stream) endHere() {
+	if s.state == endedThere {
+		s.move(over)
+		return
+	}
+	s.move(endedHere)
+}
+
+// endThere: the peer's last frame has come.
+func (s *stream) endThere() {
+	if s.state == endedHere {
+		s.move(over)
+		return
+	}
+	s.move(endedThere)
+}
+
+// waits tells whether something of the stream waits to go out.
+func (s *stream) waits() bool {
+	return s.block != nil || s.state == breaking || len(s.data) > 0 || s.ends && s.state.sends()
+}
+
+// headersTurn gives the frames of the headers, all of them; none, if there is no room.
+func (s *stream) headersTurn(room int) []byte {
+	frames := headerFrames(s.id, s.block)
 	if len(frames) > room {
 		return nil
 	}
 	s.block = nil
-	if s.state == breaking {
-		s.move(broken)
-	}
 	return frames
 }
 
-func (s *stream) waiting() []byte {
-	if s.state == breaking {
-		return wire.Frame{Kind: api.Reset, Stream: s.id, Body: []byte{byte(s.code)}}.Append(nil)
+// resetTurn gives the frame that says that the stream was reset; none, if there is no room.
+func (s *stream) resetTurn(room int) []byte {
+	f := wire.Frame{Kind: api.Reset, Stream: s.id, Body: []byte{byte(s.code)}}
+	if f.Size() > room {
+		return nil
 	}
-	return headerFrames(s.id, s.block)
+	s.move(broken)
+	return f.Append(nil)
 }
 
 // headerFrames cuts packed headers into an Open frame and as many More frames as they need.

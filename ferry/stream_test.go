@@ -7,7 +7,7 @@ import (
 )
 
 func TestStatesThatCount(t *testing.T) {
-	for s, want := range map[state]bool{idle: false, open: true, endedThere: true, breaking: true, broken: false} {
+	for s, want := range map[state]bool{idle: false, open: true, endedHere: true, endedThere: true, over: false, breaking: true, broken: false} {
 		if s.counts() != want {
 			t.Errorf("P6: a stream in the state %d counts: %v, want %v", s, !want, want)
 		}
@@ -21,7 +21,7 @@ func TestCountingOfMoves(t *testing.T) {
 		s    *stream
 		to   state
 		want int
-	}{{one, endedThere, 2}, {three, broken, 1}, {three, broken, 1}, {one, breaking, 1}, {one, broken, 0}} {
+	}{{one, endedThere, 2}, {one, endedHere, 2}, {three, broken, 1}, {three, broken, 1}, {one, breaking, 1}, {one, broken, 0}} {
 		step.s.move(step.to)
 		if o.counting != step.want || o.full() != (step.want == 2) {
 			t.Errorf("P6: with %d in the state %d there count %d, want %d", step.s.id, step.to, o.counting, step.want)
@@ -40,16 +40,13 @@ func TestWhoOpensANumber(t *testing.T) {
 
 func TestStatesOfNumbers(t *testing.T) {
 	s := newEnd(t, false, 1)
+	wantOpen(t, s, get(), 2, api.OK)
 	s.In(frame(api.Open, api.Whole, 5, 129))
 	s.In(frame(api.Open, api.Whole|api.End, 9, 129))
 	s.In(frame(api.Open, 0, 13, 129))
-	for id, want := range map[int]state{1: broken, 3: broken, 5: open, 7: broken, 9: breaking, 11: broken, 13: broken, 15: idle, 17: idle} {
-		if got := s.theirs.stateOf(id); got != want {
+	for id, want := range map[int]state{-1: idle, 0: idle, 2: open, 4: idle, 1: broken, 3: broken, 5: open, 7: broken, 9: broken, 11: broken, 13: broken, 15: idle, 17: idle} {
+		if got := s.find(id).state; got != want {
 			t.Errorf("P14: the stream %d is in the state %d, want %d", id, got, want)
 		}
-	}
-	s.Out(far)
-	if got := s.theirs.stateOf(9); got != broken {
-		t.Errorf("P12: the stream 9 is in the state %d behind its Reset", got)
 	}
 }

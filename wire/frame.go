@@ -25,7 +25,8 @@ func (f Frame) Append(b []byte) []byte {
 
 func appendTwo(b []byte, n int) []byte { return append(b, byte(n>>8), byte(n)) }
 
-func two(b []byte) int { return int(b[0])<<8 | int(b[1]) }
+// Two is the number in the first two bytes of b.
+func Two(b []byte) int { return int(b[0])<<8 | int(b[1]) }
 
 // Arrival is how much of a frame has come.
 type Arrival int
@@ -41,13 +42,13 @@ func Cut(b []byte) (f Frame, rest []byte, came Arrival) {
 	if len(b) < api.Header {
 		return Frame{}, nil, Partly
 	}
-	behind := api.Header + two(b)
+	behind := api.Header + Two(b)
 	switch {
 	case behind > api.Header+api.MaxFrame:
 		return Frame{}, nil, TooLong
 	case behind > len(b):
 		return Frame{}, nil, Partly
 	}
-	f = Frame{Kind: int(b[2]), Flags: int(b[3]), Stream: two(b[4:]), Body: b[api.Header:behind]}
+	f = Frame{Kind: int(b[2]), Flags: int(b[3]), Stream: Two(b[4:]), Body: b[api.Header:behind]}
 	return f, b[behind:], Wholly
 }
