@@ -16,6 +16,9 @@ type Conn struct {
 	events       []api.Event  // that nobody has asked for
 	in           []byte       // of a frame that has not come wholly
 	coming       *block       // headers that have not come wholly, or nil
+	pings        uint16       // the last ping's number
+	leaving      bool         // this end takes no new streams
+	peerLeaves   bool         // the peer takes none
 	failed       bool
 }
 
@@ -66,6 +69,15 @@ func (c *Conn) enter(s *stream) {
 	}
 }
 
+// place brings a stream into the ring or out of it, by whether something of it waits.
+func (c *Conn) place(s *stream) {
+	if s.waits() {
+		c.enter(s)
+		return
+	}
+	c.ring = slices.DeleteFunc(c.ring, func(other *stream) bool { return other == s })
+}
+
 func (c *Conn) tell(kind, id, code int) {
 	c.events = append(c.events, api.Event{Kind: kind, Stream: id, Code: code})
 }
@@ -77,6 +89,6 @@ func (c *Conn) fail(code int) {
 		s.block, s.data = nil, nil
 	}
 	c.ring, c.in, c.coming = nil, nil, nil
-	c.lay(api.Away, 0, 0, byte(c.theirs.last>>8), byte(c.theirs.last), byte(code))
+	c.layAway(code)
 	c.tell(api.Failed, 0, code)
 }

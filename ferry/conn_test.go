@@ -52,6 +52,10 @@ func opened(id int) api.Event   { return api.Event{Kind: api.Opened, Stream: id}
 func ended(id int) api.Event    { return api.Event{Kind: api.Ended, Stream: id} }
 func failed(code int) api.Event { return api.Event{Kind: api.Failed, Code: code} }
 
+func broke(id, code int) api.Event {
+	return api.Event{Kind: api.Broken, Stream: id, Code: code}
+}
+
 func wantOpen(t *testing.T, c *Conn, headers []api.Pair, id int, want api.Errno) {
 	t.Helper()
 	if n, e := c.Open(headers); n != id || e != want {
@@ -86,10 +90,13 @@ func wantFailure(t *testing.T, c *Conn, last, code int) {
 // wantOver: nothing happens any more.
 func wantOver(t *testing.T, c *Conn) {
 	t.Helper()
-	for _, b := range [][]byte{frame(api.Settings, 0, 0, 6), openFrame(501), openFrame(502), dataFrame(1, api.End, []byte("x")), dataFrame(2, api.End, nil), windowFrames(1, 1000), {0, 65, 0, 0, 0, 0}} {
+	for _, b := range [][]byte{frame(api.Settings, 0, 0, 6), openFrame(501), openFrame(502), dataFrame(1, api.End, []byte("x")), dataFrame(2, api.End, nil), windowFrames(1, 1000), resetFrame(1, 9), resetFrame(2, 9), pingFrame(0, 7), pingFrame(api.Ack, 7), awayFrame(7, 9), {0, 65, 0, 0, 0, 0}} {
 		c.In(b)
 	}
 	wantOpen(t, c, get(), 0, api.ErrGone)
+	wantPing(t, c, 0, api.ErrGone)
+	wantAway(t, c, api.ErrGone)
+	wantReset(t, c, api.ErrStream, -1, 0, far)
 	wantEvents(t, c)
 	wantOut(t, c, far)
 	wantNoStream(t, c, 501, 502)

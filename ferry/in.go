@@ -42,10 +42,13 @@ func (c *Conn) do(f wire.Frame) {
 		api.Data:     (*Conn).doData,
 		api.Open:     (*Conn).doOpen,
 		api.More:     (*Conn).doMore,
+		api.Reset:    (*Conn).doReset,
 		api.Settings: (*Conn).doSettings,
+		api.Ping:     (*Conn).doPing,
+		api.Away:     (*Conn).doAway,
 		api.Window:   (*Conn).doWindow,
 	}
-	if f.Kind < len(done) && done[f.Kind] != nil {
+	if f.Kind < len(done) {
 		done[f.Kind](c, f)
 	}
 }
@@ -58,9 +61,7 @@ func (c *Conn) doData(f wire.Frame) {
 	case !c.window.take(size):
 		c.fail(api.Flow)
 	case s.state.wasReset():
-		if size > 0 {
-			c.give(&c.window, 0, size)
-		}
+		c.passOver(s, f)
 	case s.state.hasPeersEnd():
 		c.fail(api.Closed)
 	case !s.window.take(size):
@@ -70,6 +71,16 @@ func (c *Conn) doData(f wire.Frame) {
 		if f.Has(api.End) {
 			c.takeEnd(s)
 		}
+	}
+}
+
+// passOver lets go data of a stream that was reset.
+func (c *Conn) passOver(s *stream, f wire.Frame) {
+	if size := len(f.Body); size > 0 {
+		c.give(&c.window, 0, size)
+	}
+	if f.Has(api.End) {
+		s.endThere()
 	}
 }
 

@@ -14,7 +14,7 @@ func (c *Conn) Open(headers []api.Pair) (int, api.Errno) {
 	switch {
 	case errno != api.OK:
 		return 0, errno
-	case c.failed:
+	case c.failed || c.peerLeaves || c.leaving:
 		return 0, api.ErrGone
 	case c.mine.full() || id > api.MaxId:
 		return 0, api.ErrMany
@@ -29,7 +29,7 @@ func (c *Conn) Open(headers []api.Pair) (int, api.Errno) {
 // Headers tells the headers of a stream that the peer opened (P7).
 func (c *Conn) Headers(id int) ([]api.Pair, api.Errno) {
 	s := c.theirs.streams[id]
-	if s == nil {
+	if s == nil || s.headers == nil {
 		return nil, api.ErrStream
 	}
 	return slices.Clone(s.headers), api.OK

@@ -21,7 +21,7 @@ func (o *opener) next() int {
 	return o.last + 2
 }
 
-// find is the stream of a number of this opener's. One that it has come to, but that is not kept, was left out or refused, or its headers still come: all these are as if they were reset.
+// find is the stream of a number of this opener's. One that it has come to, but that is not kept, was reset or left out, or its headers still come: all these are alike.
 func (o *opener) find(id int) *stream {
 	if id > o.last {
 		return &stream{state: idle}
@@ -37,13 +37,8 @@ func (o *opener) full() bool { return o.counting >= o.most }
 
 // keep begins an open stream, and keeps it.
 func (o *opener) keep(id int) *stream {
-	s := o.begin(id, open)
-	o.streams[id] = s
-	return s
-}
-
-func (o *opener) begin(id int, in state) *stream {
 	s := &stream{id: id, opener: o, window: windows{from: api.StreamWindow, to: api.StreamWindow}}
-	s.move(in)
+	o.streams[id] = s
+	s.move(open)
 	return s
 }

@@ -41,18 +41,18 @@ func (c *Conn) takeHeaders(f wire.Frame) {
 		return
 	}
 	c.coming = nil
-	if c.theirs.full() {
+	if c.theirs.full() || c.leaving {
 		c.refuse(come.stream)
 		return
 	}
 	c.accept(come, headers)
 }
 
-// refuse resets a stream that is one more than there may be. It is not kept: but for the frame that says so, it is as a number that was left out.
+// refuse resets a stream that is one more than there may be. Nobody may ask for its headers, so that none are kept.
 func (c *Conn) refuse(id int) {
-	s := c.theirs.begin(id, breaking)
-	s.code = api.Refused
-	c.enter(s)
+	s := c.theirs.keep(id)
+	s.breakHere(api.Refused)
+	c.place(s)
 }
 
 func (c *Conn) accept(come *block, headers []api.Pair) {

@@ -42,7 +42,7 @@ func (c *Conn) turn(s *stream, room int) []byte {
 	switch {
 	case s.block != nil:
 		return s.headersTurn(room)
-	case s.state == breaking:
+	case s.state.tellsReset():
 		return s.resetTurn(room)
 	}
 	return c.dataTurn(s, room)

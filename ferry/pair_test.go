@@ -61,11 +61,45 @@ func noise(seed uint32, length int) []byte {
 func noisyFrames(seed uint32) []byte {
 	var all []byte
 	for n := noise(seed, 400); len(n) > 8; n = n[4:] {
-		kind := []int{api.Open, api.Open, api.More, api.Settings, api.Data, api.Data, api.Window, int(n[0])}[n[1]%8]
-		body := [][]byte{{129}, {131, 129}, nil, {n[0] % 8}, n[:n[0]%8], {0, 1 + n[0]}}[n[2]%6]
-		all = append(all, frame(kind, int(n[3]), int(n[0]/8), body...)...)
+		kind := []int{api.Open, api.Open, api.More, api.Settings, api.Data, api.Data, api.Window, api.Reset, api.Reset, api.Ping, api.Away, int(n[0])}[n[1]%12]
+		body := [][]byte{{129}, {131, 129}, nil, {n[0] % 8}, n[:n[0]%8], {0, 1 + n[0]}, {0, n[0], n[1]}}[n[2]%7]
+		id := int(n[0] / 8)
+		if n[2]%2 == 0 && (kind == api.Settings || kind == api.Ping || kind == api.Away) {
+			id = 0
+		}
+		all = append(all, frame(kind, int(n[3]), id, body...)...)
 	}
 	return all
+}
+
+// wantSound: what an end keeps of its streams in several places is the same in all of them, and no window is lost.
+func wantSound(t *testing.T, c *Conn) {
+	t.Helper()
+	unread, waiting := 0, 0
+	for _, o := range []*opener{&c.mine, &c.theirs} {
+		counting := 0
+		for _, s := range o.streams {
+			unread += len(s.unread)
+			if s.state.counts() {
+				counting++
+			}
+			if !c.failed && s.waits() {
+				waiting++
+			}
+			if s.waits() != slices.Contains(c.ring, s) && !c.failed {
+				t.Fatalf("P12: the stream %d waits: %v", s.id, s.waits())
+			}
+		}
+		if counting != o.counting {
+			t.Fatalf("P6: %d streams count, want %d", o.counting, counting)
+		}
+	}
+	if len(c.ring) != waiting {
+		t.Fatalf("P12: %d streams are in the ring, of which %d wait", len(c.ring), waiting)
+	}
+	if !c.failed && c.window.to+unread != api.ConnWindow {
+		t.Fatalf("P15: the window takes %d, where %d are unread", c.window.to, unread)
+	}
 }
 
 // No bytes do anything but what is said: at most one failure, which is the last event, and nothing but an Away frame behind it.
@@ -85,7 +119,14 @@ func TestInOfNoise(t *testing.T) {
 				c.Read(id, len(piece)-5)
 			}
 			c.End(int(seed % 8))
+			c.Reset(int(seed+uint32(len(c.in))) % 9)
+			c.Ping()
+			if seed%5 == 0 {
+				c.Away()
+			}
+			wantSound(t, c)
 			c.Out(int(seed % 30))
+			wantSound(t, c)
 		}
 		for i, e := range c.events {
 			if e.Kind == api.Failed && i < len(c.events)-1 {

@@ -9,19 +9,21 @@ import (
 type state int
 
 const (
-	idle       state = iota // its opener has not come to it yet
-	open                    // neither end has ended it
-	endedHere               // this end has ended it: the frame that says so has left
-	endedThere              // the peer has ended it
-	over                    // both have ended it
-	breaking                // it was reset here; the frame that says so waits
-	broken                  // it was reset, and nothing of it waits
+	idle          state = iota // its opener has not come to it yet
+	open                       // neither end has ended it
+	endedHere                  // this end has ended it: the frame that says so has left
+	endedThere                 // the peer has ended it
+	over                       // both have ended it
+	breaking                   // it was reset here; the frame that says so waits
+	breakingEnded              // likewise, and this end had ended it: the peer's end makes it over
+	parting                    // likewise, but the peer has reset it, too, or both have ended it
+	broken                     // it was reset, and nothing of it waits
 )
 
 // counts tells whether a stream is one of its opener's still.
 func (s state) counts() bool {
 	switch s {
-	case breaking:
+	case breaking, breakingEnded:
 		// The peer has not been told yet, and counts it as an open one.
 		fallthrough
 	case endedHere, endedThere:
@@ -60,10 +62,22 @@ func (s state) hasPeersEnd() bool {
 // wasReset tells whether either end has reset a stream.
 func (s state) wasReset() bool {
 	switch s {
-	case breaking:
+	case breaking, breakingEnded, parting:
 		// Whether the peer has been told is no matter here.
 		fallthrough
 	case broken:
+		return true
+	}
+	return false
+}
+
+// tellsReset tells whether that a stream was reset waits.
+func (s state) tellsReset() bool {
+	switch s {
+	case parting:
+		// The frame goes out, whatever the peer has said meanwhile.
+		fallthrough
+	case breaking, breakingEnded:
 		return true
 	}
 	return false
@@ -82,7 +96,7 @@ type stream struct {
 	code    int // why it was reset, while that waits
 }
 
-// move brings the stream into another state.
+// move brings the stream into another state. One that is broken is as a number that was left out, but that its headers may be asked for.
 func (s *stream) move(to state) {
 	if s.state.counts() {
 		s.opener.counting--
@@ -91,6 +105,9 @@ func (s *stream) move(to state) {
 		s.opener.counting++
 	}
 	s.state = to
+	if to == broken && s.headers == nil {
+		delete(s.opener.streams, s.id)
+	}
 }
 
 // endHere: this end's last frame has left.
@@ -102,18 +119,34 @@ func (s *stream) endHere() {
 	s.move(endedHere)
 }
 
-// endThere: the peer's last frame has come.
+// endThere: the peer's last frame has come. Of a stream that was reset that matters only where it is over by it.
 func (s *stream) endThere() {
-	if s.state == endedHere {
+	switch s.state {
+	case open:
+		s.move(endedThere)
+	case endedHere:
 		s.move(over)
-		return
+	case breakingEnded:
+		s.move(parting)
 	}
-	s.move(endedThere)
+}
+
+// breakHere: this end resets the stream. A peer that has not heard of it needs not be told.
+func (s *stream) breakHere(code int) {
+	s.code = code
+	switch {
+	case s.block != nil:
+		s.move(broken)
+	case s.state == endedHere:
+		s.move(breakingEnded)
+	default:
+		s.move(breaking)
+	}
 }
 
 // waits tells whether something of the stream waits to go out.
 func (s *stream) waits() bool {
-	return s.block != nil || s.state == breaking || len(s.data) > 0 || s.ends && s.state.sends()
+	return s.block != nil || s.state.tellsReset() || len(s.data) > 0 || s.ends && s.state.sends()
 }
 
 // headersTurn gives the frames of the headers, all of them; none, if there is no room.

@@ -7,7 +7,7 @@ import (
 )
 
 func TestStatesThatCount(t *testing.T) {
-	for s, want := range map[state]bool{idle: false, open: true, endedHere: true, endedThere: true, over: false, breaking: true, broken: false} {
+	for s, want := range map[state]bool{idle: false, open: true, endedHere: true, endedThere: true, over: false, breaking: true, breakingEnded: true, parting: false, broken: false} {
 		if s.counts() != want {
 			t.Errorf("P6: a stream in the state %d counts: %v, want %v", s, !want, want)
 		}
@@ -16,12 +16,12 @@ func TestStatesThatCount(t *testing.T) {
 
 func TestCountingOfMoves(t *testing.T) {
 	o := opener{first: 1, most: 2, streams: map[int]*stream{}}
-	one, three := o.begin(1, open), o.begin(3, breaking)
+	one, three := o.keep(1), o.keep(3)
 	for _, step := range []struct {
 		s    *stream
 		to   state
 		want int
-	}{{one, endedThere, 2}, {one, endedHere, 2}, {three, broken, 1}, {three, broken, 1}, {one, breaking, 1}, {one, broken, 0}} {
+	}{{three, breaking, 2}, {one, endedThere, 2}, {one, endedHere, 2}, {three, broken, 1}, {three, broken, 1}, {one, breakingEnded, 1}, {one, parting, 0}, {one, broken, 0}} {
 		step.s.move(step.to)
 		if o.counting != step.want || o.full() != (step.want == 2) {
 			t.Errorf("P6: with %d in the state %d there count %d, want %d", step.s.id, step.to, o.counting, step.want)
@@ -44,7 +44,7 @@ func TestStatesOfNumbers(t *testing.T) {
 	s.In(frame(api.Open, api.Whole, 5, 129))
 	s.In(frame(api.Open, api.Whole|api.End, 9, 129))
 	s.In(frame(api.Open, 0, 13, 129))
-	for id, want := range map[int]state{-1: idle, 0: idle, 2: open, 4: idle, 1: broken, 3: broken, 5: open, 7: broken, 9: broken, 11: broken, 13: broken, 15: idle, 17: idle} {
+	for id, want := range map[int]state{-1: idle, 0: idle, 2: open, 4: idle, 1: broken, 3: broken, 5: open, 7: broken, 9: breaking, 11: broken, 13: broken, 15: idle, 17: idle} {
 		if got := s.find(id).state; got != want {
 			t.Errorf("P14: the stream %d is in the state %d, want %d", id, got, want)
 		}
